@@ -1,0 +1,178 @@
+"""Promises [2] and [3]: what holds of all functions, and the bounds."""
+
+import copy
+import inspect
+import unittest
+
+from tests.samples import CUBE, KINDS, NAMED, SIDE, SWAPPED, THREE, as_lists
+from whichmethod import choose, data
+from whichmethod.errors import NoMethod
+
+# Each function with its parameters and arguments; those of is_kinds and is_generic are a thing.
+CALLS = [
+    (data.is_kinds, {"thing": KINDS}),
+    (data.is_generic, {"thing": THREE}),
+    (data.is_below, {"kinds": KINDS, "one": "e", "other": "b"}),
+    (data.shapes, {"generic": SIDE}),
+    (data.common, {"kinds": KINDS, "one": ("a", "c"), "other": ("b", "d")}),
+    (choose.fitting, {"generic": THREE, "call": ("e",)}),
+    (choose.nearest, {"generic": THREE, "call": ("d",)}),
+    (choose.chosen, {"generic": THREE, "call": ("e",)}),
+    (choose.torn, {"generic": THREE}),
+    (choose.greatest_torn, {"generic": THREE}),
+    (choose.meet, {"generic": THREE, "label": "p", "other": "q"}),
+    (choose.cover, {"generic": THREE, "label": "p", "other": "r"}),
+    (choose.fitting, {"generic": SWAPPED, "call": ("a", "b")}),
+    (choose.torn, {"generic": SWAPPED}),
+    (choose.greatest_torn, {"generic": SIDE}),
+    (choose.cover, {"generic": SWAPPED, "label": "z", "other": "a"}),
+]
+WITHOUT_THINGS = [(function, values) for function, values in CALLS if "thing" not in values]
+
+
+def kinds_of_members(value):
+    """The value with the class of each part, as 1 == True and a list may hide in a tuple."""
+    if isinstance(value, (list, tuple)):
+        return (type(value).__name__, [kinds_of_members(part) for part in value])
+    return (type(value).__name__, value)
+
+
+class Arguments(unittest.TestCase):
+    def each(self, calls):
+        """Each function, its arguments by their names, and what it returns for them by position."""
+        for function, values in calls:
+            yield function, values, function(*values.values())
+
+    def test_by_the_names_shown(self):
+        for function, values, result in self.each(CALLS):
+            self.assertEqual(kinds_of_members(function(**values)), kinds_of_members(result))
+            self.assertEqual(list(inspect.signature(function).parameters), list(values))
+
+    def test_in_any_order_of_names(self):
+        for function, values, result in self.each(CALLS):
+            self.assertEqual(function(**dict(reversed(list(values.items())))), result)
+
+    def test_lists_for_tuples_at_every_depth(self):
+        for function, values, result in self.each(WITHOUT_THINGS):
+            lists = {name: as_lists(value) for name, value in values.items()}
+            self.assertEqual(kinds_of_members(function(**lists)), kinds_of_members(result))
+
+    def test_lists_for_some_tuples(self):
+        kinds, places, methods = THREE
+        mixed = [kinds, places, (methods[0], list(methods[1]), (methods[2][0], list(methods[2][1])))]
+        self.assertEqual(choose.nearest(mixed, ["e"]), ["r"])
+        self.assertEqual(choose.torn(mixed), [("d",)])
+        self.assertEqual(choose.cover(mixed, "p", "r"), ["r"])
+        self.assertEqual(data.common([list(row) for row in KINDS], ("a",), ["b"]), [("c",), ("d",)])
+
+    def test_a_thing_is_not_taken_with_lists(self):
+        self.assertIs(data.is_kinds(as_lists(KINDS)), False)
+        self.assertIs(data.is_generic(as_lists(THREE)), False)
+
+    def test_no_argument_is_changed(self):
+        for function, values, _ in self.each(CALLS):
+            lists = {name: as_lists(value) for name, value in values.items()}
+            kept = copy.deepcopy(lists)
+            function(**lists)
+            self.assertEqual(kinds_of_members(list(lists.values())), kinds_of_members(list(kept.values())))
+
+    def test_no_argument_is_changed_where_an_error_is_raised(self):
+        generic = as_lists(THREE)
+        for function in (choose.meet, choose.cover):
+            with self.assertRaises(NoMethod):
+                function(generic, "p", "x")
+            self.assertEqual(generic, as_lists(THREE))
+
+
+class Results(unittest.TestCase):
+    def test_every_returned_list_is_new(self):
+        for function, values in CALLS:
+            first = function(**values)
+            if isinstance(first, list):
+                with self.subTest(function=function.__name__):
+                    kept = list(first)
+                    first.append("more")
+                    first.reverse()
+                    second = function(**values)
+                    self.assertEqual(second, kept)
+                    self.assertIsNot(second, first)
+
+    def test_no_returned_list_is_an_argument(self):
+        generic = as_lists(THREE)
+        call = ["d"]
+        for result in (choose.fitting(generic, call), choose.nearest(generic, call), choose.torn(generic)):
+            result.clear()
+        self.assertEqual((generic, call), (as_lists(THREE), ["d"]))
+
+    def test_equal_results_for_the_same_call(self):
+        for function, values in CALLS:
+            with self.subTest(function=function.__name__):
+                first = kinds_of_members(function(**values))
+                self.assertEqual(kinds_of_members(function(**copy.deepcopy(values))), first)
+
+    def test_several_results_are_a_list_and_shapes_are_tuples(self):
+        parts = data.common(KINDS, ("a",), ("b",))
+        for result in (data.shapes(SIDE), parts, choose.torn(THREE), choose.greatest_torn(SIDE)):
+            self.assertIs(type(result), list)
+            self.assertEqual({type(shape) for shape in result}, {tuple})
+        for result in (choose.fitting(THREE, ("e",)), choose.nearest(THREE, ("e",)), choose.cover(THREE, "p", "r")):
+            self.assertIs(type(result), list)
+            self.assertEqual({type(label) for label in result}, {str})
+        self.assertIs(type(choose.meet(as_lists(THREE), "p", "q")), tuple)
+
+    def test_returned_values_may_be_passed_in_again(self):
+        for generic in NAMED:
+            for call in data.shapes(generic) + choose.greatest_torn(generic):
+                self.assertEqual(choose.nearest(generic, call), choose.nearest(generic, list(call)))
+
+    def test_lists_ascend(self):
+        for generic in NAMED:
+            for result in (data.shapes(generic), choose.torn(generic), choose.greatest_torn(generic)):
+                self.assertEqual(result, sorted(set(result)))
+            for call in data.shapes(generic):
+                for result in (choose.fitting(generic, call), choose.nearest(generic, call)):
+                    self.assertEqual(result, sorted(set(result)))
+
+
+class Bounds(unittest.TestCase):
+    def test_eight_kinds_three_places_seven_methods(self):
+        self.assertEqual((len(CUBE[0]), CUBE[1], len(CUBE[2])), (8, 3, 7))
+        self.assertIs(data.is_generic(CUBE), True)
+        calls = choose.torn(CUBE)
+        self.assertEqual(len(data.shapes(CUBE)), 512)
+        self.assertEqual(choose.chosen(CUBE, ("a", "a", "a")), "q")
+        self.assertLess(0, len(calls))
+        self.assertLess(len(calls), 512)
+
+    def test_one_kind_one_place_one_method(self):
+        generic = ((("a", (), False),), 1, (("m", ("a",)),))
+        self.assertEqual(data.shapes(generic), [("a",)])
+        self.assertEqual((choose.torn(generic), choose.chosen(generic, ("a",))), ([], "m"))
+
+    def test_somewhat_beyond_them(self):
+        kinds = tuple((name, ("a",) if name > "a" else (), False) for name in "abcdefghijkl")
+        generic = (kinds, 3, (("p", ("a", "b", "c")), ("q", ("d", "a", "a"))))
+        self.assertIs(data.is_generic(generic), True)
+        self.assertEqual(len(data.shapes(generic)), 1728)
+        self.assertEqual(choose.greatest_torn(generic), [("d", "b", "c")])
+        self.assertEqual(choose.meet(generic, "p", "q"), ("d", "b", "c"))
+
+    def test_four_places(self):
+        generic = (SIDE[0], 4, (("p", ("a", "t", "t", "t")), ("q", ("t", "t", "t", "a"))))
+        self.assertEqual(len(choose.torn(generic)), 4)
+        self.assertEqual(choose.greatest_torn(generic), [("a", "t", "t", "a")])
+
+
+class Names(unittest.TestCase):
+    def test_each_function_is_defined_in_the_file_under_which_it_is_listed(self):
+        for function, _ in CALLS:
+            with self.subTest(function=function.__name__):
+                self.assertIn(function.__module__, (data.__name__, choose.__name__))
+        for name in ("is_kinds", "is_generic", "is_below", "shapes", "common"):
+            self.assertEqual(getattr(data, name).__module__, "whichmethod.data")
+        for name in ("fitting", "nearest", "chosen", "torn", "greatest_torn", "meet", "cover"):
+            self.assertEqual(getattr(choose, name).__module__, "whichmethod.choose")
+
+
+if __name__ == "__main__":
+    unittest.main()

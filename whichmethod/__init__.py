@@ -1,0 +1,1 @@
+"""Functions whose methods are chosen by the kinds of all their arguments."""
