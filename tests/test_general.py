@@ -4,11 +4,15 @@ import copy
 import inspect
 import unittest
 
-from tests.samples import CUBE, KINDS, NAMED, SIDE, SWAPPED, THREE, as_lists
-from whichmethod import choose, data
-from whichmethod.errors import NoMethod
+from tests.samples import BOTH, CUBE, KINDS, NAMED, SIDE, SWAPPED, THREE, WIDE, as_lists
+from whichmethod import choose, data, later, mend, orders
+from whichmethod.errors import NoMethod, NotFitting, NotNeeded
 
-# Each function with its parameters and arguments; those of is_kinds and is_generic are a thing.
+ORDER = ("e", "c", "d", "a", "b")
+WISHES = [(("c",), "q"), (("d",), "p")]
+LATER = ((("f", ("a", "b"), False), ("g", ("x", "y"), True)), ("f", "g"))
+
+# Each function with its parameters and arguments.
 CALLS = [
     (data.is_kinds, {"thing": KINDS}),
     (data.is_generic, {"thing": THREE}),
@@ -26,8 +30,83 @@ CALLS = [
     (choose.torn, {"generic": SWAPPED}),
     (choose.greatest_torn, {"generic": SIDE}),
     (choose.cover, {"generic": SWAPPED, "label": "z", "other": "a"}),
+    (mend.mend, {"generic": THREE}),
+    (mend.stages, {"generic": BOTH}),
+    (mend.is_mended, {"generic": THREE, "shapes": [("d",), ("e",)]}),
+    (mend.chain, {"generic": THREE, "shape": ("e",)}),
+    (mend.is_chain, {"generic": THREE, "shape": ("e",), "thing": (("d",), ("e",))}),
+    (mend.who, {"generic": THREE, "shape": ("e",)}),
+    (mend.lost, {"generic": THREE}),
+    (later.is_parting, {"generic": WIDE, "thing": ("a", "x")}),
+    (later.unsafe, {"generic": WIDE, "partings": [("a", "x"), ("b", "y")]}),
+    (later.tearing, {"generic": WIDE, "partings": [("a", "y")], "label": "p", "other": "q"}),
+    (later.tears, {"generic": WIDE, "partings": [("a", "x")], "label": "p", "other": "q", "thing": LATER}),
+    (later.safe_by, {"generic": WIDE, "partings": [("x", "y"), ("a", "b")], "label": "p", "other": "q"}),
+    (later.safe_by, {"generic": THREE, "partings": [], "label": "p", "other": "r"}),
+    (later.barred, {"generic": THREE}),
+    (later.fewest_partings, {"generic": WIDE}),
+    (later.paper, {"generic": WIDE}),
+    (orders.is_order, {"kinds": KINDS, "thing": ORDER}),
+    (orders.won_by, {"generic": BOTH, "order": ORDER, "call": ("c",)}),
+    (orders.forced, {"generic": BOTH, "wish": (("c",), "q")}),
+    (orders.order_for, {"generic": BOTH, "wishes": WISHES[:1]}),
+    (orders.ring, {"generic": BOTH, "wishes": WISHES}),
+    (orders.shows_ring, {"generic": BOTH, "wishes": WISHES, "thing": ("b", "a")}),
+    (orders.cannot, {"generic": BOTH, "wishes": WISHES + [(("a",), "p")]}),
+    (orders.winners, {"generic": BOTH, "call": ("d",)}),
+    (orders.settled, {"generic": SIDE}),
+    (orders.choices, {"generic": BOTH}),
+    (orders.unlike, {"generic": BOTH, "order": ORDER, "other": ("e", "d", "c", "b", "a")}),
 ]
-WITHOUT_THINGS = [(function, values) for function, values in CALLS if "thing" not in values]
+
+# Calls that raise an error that the document names.
+WRONG = [
+    (choose.meet, NoMethod, [THREE, "p", "x"]),
+    (choose.cover, NoMethod, [THREE, "x", "p"]),
+    (mend.chain, NotNeeded, [THREE, ("c",)]),
+    (mend.who, NotNeeded, [THREE, ("c",)]),
+    (later.tearing, NoMethod, [WIDE, [("a", "b")], "p", "x"]),
+    (later.tears, NoMethod, [WIDE, [("a", "b")], "x", "p", LATER]),
+    (later.safe_by, NoMethod, [WIDE, [("a", "b")], "x", "y"]),
+    (orders.forced, NotFitting, [BOTH, (("a",), "q")]),
+    (orders.order_for, NotFitting, [BOTH, WISHES + [(("a",), "q")]]),
+    (orders.ring, NotFitting, [BOTH, WISHES + [(("a",), "q")]]),
+    (orders.shows_ring, NotFitting, [BOTH, WISHES + [(("a",), "q")], ("a", "b")]),
+    (orders.cannot, NotFitting, [BOTH, WISHES + [(("a",), "q")]]),
+]
+
+# What the interface lists, file by file.
+LISTED = {
+    data: ["is_kinds", "is_generic", "is_below", "shapes", "common"],
+    choose: ["fitting", "nearest", "chosen", "torn", "greatest_torn", "meet", "cover"],
+    mend: ["mend", "stages", "is_mended", "chain", "is_chain", "who", "lost"],
+    later: ["is_parting", "unsafe", "tearing", "tears", "safe_by", "barred", "fewest_partings", "paper"],
+    orders: [
+        "is_order", "won_by", "forced", "order_for", "ring", "shows_ring", "cannot",
+        "winners", "settled", "choices", "unlike",
+    ],
+}
+
+
+def with_lists(values):
+    """The arguments with lists for tuples at every depth, but for a thing."""
+    return {name: value if name == "thing" else as_lists(value) for name, value in values.items()}
+
+
+def with_tuples(value):
+    """The value with tuples for lists at every depth."""
+    if isinstance(value, (list, tuple)):
+        return tuple(with_tuples(part) for part in value)
+    return value
+
+
+def lists_in(value):
+    """All lists in a value, itself among them."""
+    found = [value] if isinstance(value, list) else []
+    if isinstance(value, (list, tuple)):
+        for part in value:
+            found += lists_in(part)
+    return found
 
 
 def kinds_of_members(value):
@@ -53,9 +132,14 @@ class Arguments(unittest.TestCase):
             self.assertEqual(function(**dict(reversed(list(values.items())))), result)
 
     def test_lists_for_tuples_at_every_depth(self):
-        for function, values, result in self.each(WITHOUT_THINGS):
-            lists = {name: as_lists(value) for name, value in values.items()}
-            self.assertEqual(kinds_of_members(function(**lists)), kinds_of_members(result))
+        for function, values, result in self.each(CALLS):
+            if list(values) != ["thing"]:
+                self.assertEqual(kinds_of_members(function(**with_lists(values))), kinds_of_members(result))
+
+    def test_tuples_for_lists_at_every_depth(self):
+        for function, values, result in self.each(CALLS):
+            tuples = {name: with_tuples(value) for name, value in values.items()}
+            self.assertEqual(kinds_of_members(function(**tuples)), kinds_of_members(result))
 
     def test_lists_for_some_tuples(self):
         kinds, places, methods = THREE
@@ -68,6 +152,11 @@ class Arguments(unittest.TestCase):
     def test_a_thing_is_not_taken_with_lists(self):
         self.assertIs(data.is_kinds(as_lists(KINDS)), False)
         self.assertIs(data.is_generic(as_lists(THREE)), False)
+        for function, values in CALLS:
+            if "thing" in values:
+                self.assertIs(function(**values), True)
+                self.assertIs(function(**{**values, "thing": list(values["thing"])}), False)
+                self.assertIs(function(**{**values, "thing": as_lists(values["thing"])}), False)
 
     def test_no_argument_is_changed(self):
         for function, values, _ in self.each(CALLS):
@@ -77,11 +166,20 @@ class Arguments(unittest.TestCase):
             self.assertEqual(kinds_of_members(list(lists.values())), kinds_of_members(list(kept.values())))
 
     def test_no_argument_is_changed_where_an_error_is_raised(self):
-        generic = as_lists(THREE)
-        for function in (choose.meet, choose.cover):
-            with self.assertRaises(NoMethod):
-                function(generic, "p", "x")
-            self.assertEqual(generic, as_lists(THREE))
+        for function, error, values in WRONG:
+            with self.subTest(function=function.__name__):
+                lists = as_lists(values)
+                with self.assertRaises(error):
+                    function(*lists)
+                self.assertEqual(kinds_of_members(lists), kinds_of_members(as_lists(values)))
+
+    def test_what_an_error_keeps_are_tuples(self):
+        for function, error, values in WRONG:
+            with self.subTest(function=function.__name__):
+                with self.assertRaises(error) as caught:
+                    function(*as_lists(values))
+                for kept in vars(caught.exception).values():
+                    self.assertEqual(lists_in(kept), [])
 
 
 class Results(unittest.TestCase):
@@ -96,6 +194,21 @@ class Results(unittest.TestCase):
                     second = function(**values)
                     self.assertEqual(second, kept)
                     self.assertIsNot(second, first)
+
+    def test_so_is_every_list_in_it(self):
+        for function, values in CALLS:
+            first = function(**values)
+            kept = copy.deepcopy(first)
+            for row in lists_in(first):
+                row.append("more")
+            self.assertEqual(function(**values), kept)
+
+    def test_only_the_results_are_lists(self):
+        for function, values in CALLS:
+            for row in (function(**values), function(**with_lists(values)) if list(values) != ["thing"] else None):
+                found = lists_in(row)
+                whole = 1 if isinstance(row, list) else 0
+                self.assertEqual(len(found), whole + len(row) if function is mend.stages and whole else whole)
 
     def test_no_returned_list_is_an_argument(self):
         generic = as_lists(THREE)
@@ -165,13 +278,16 @@ class Bounds(unittest.TestCase):
 
 class Names(unittest.TestCase):
     def test_each_function_is_defined_in_the_file_under_which_it_is_listed(self):
-        for function, _ in CALLS:
-            with self.subTest(function=function.__name__):
-                self.assertIn(function.__module__, (data.__name__, choose.__name__))
-        for name in ("is_kinds", "is_generic", "is_below", "shapes", "common"):
-            self.assertEqual(getattr(data, name).__module__, "whichmethod.data")
-        for name in ("fitting", "nearest", "chosen", "torn", "greatest_torn", "meet", "cover"):
-            self.assertEqual(getattr(choose, name).__module__, "whichmethod.choose")
+        for file, names in LISTED.items():
+            for name in names:
+                with self.subTest(name=name):
+                    self.assertEqual(getattr(file, name).__module__, file.__name__)
+
+    def test_each_of_them_is_tested_here(self):
+        tested = {function for function, _ in CALLS}
+        for file, names in LISTED.items():
+            for name in names:
+                self.assertIn(getattr(file, name), tested)
 
 
 if __name__ == "__main__":

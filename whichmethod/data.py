@@ -1,7 +1,7 @@
 """KINDS, SHAPEs and GENERICs: what they are, and what is below what."""
 
 from whichmethod.below import every_choice, greatest_kinds, is_shape_below, uppers
-from whichmethod.forms import is_ascending, is_label, is_name, is_number, is_tuple_of
+from whichmethod.forms import are_names_of, is_ascending, is_label, is_name, is_number, is_tuple_of
 
 
 def is_kinds(thing):
@@ -22,12 +22,7 @@ def _is_row(thing, ahead):
     name, supers, is_bare = thing
     if not is_name(name) or name in ahead or not isinstance(is_bare, bool):
         return False
-    return _are_kinds_of(ahead, supers) and is_ascending(supers)
-
-
-def _are_kinds_of(names, thing):
-    # Only a NAME is looked up, as a thing may hold lists, which no dict can be asked for.
-    return isinstance(thing, tuple) and all([is_name(name) and name in names for name in thing])
+    return are_names_of(ahead, supers) and is_ascending(supers)
 
 
 def is_generic(thing):
@@ -53,7 +48,7 @@ def _is_method(names, places, thing):
     if not is_tuple_of(2, thing):
         return False
     label, shape = thing
-    return is_label(label) and is_tuple_of(places, shape) and _are_kinds_of(names, shape)
+    return is_label(label) and is_tuple_of(places, shape) and are_names_of(names, shape)
 
 
 def is_below(kinds, one, other):

@@ -30,6 +30,12 @@ def is_label(thing):
     return is_name(thing) and thing not in ANSWERS
 
 
+def are_names_of(names, thing):
+    """Whether thing is a tuple of NAMEs that are keys of a dict."""
+    # Only a NAME is looked up, as a thing may hold lists, which no dict can be asked for.
+    return isinstance(thing, tuple) and all([is_name(name) and name in names for name in thing])
+
+
 def is_tuple_of(size, thing):
     """Whether thing is a tuple with so many members."""
     return isinstance(thing, tuple) and len(thing) == size
