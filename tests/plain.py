@@ -1,7 +1,8 @@
-"""What the document's definitions of [6] to [9] say, by plain search over all possibilities."""
+"""What the document's definitions of [6] to [12] say, by plain search over all possibilities."""
 
 import functools
 import itertools
+import re
 
 from tests import samples
 
@@ -255,3 +256,103 @@ def ways(generic):
     """The different ways in which ORDERs let all calls be won."""
     calls = samples.all_shapes_of(generic)
     return {tuple(won_by(generic, order, call) for call in calls) for order in orders(generic[0])}
+
+
+# [10]
+
+
+def chosen(generic, call):
+    near = samples.nearest_labels(generic, call)
+    return "none" if not near else near[0] if len(near) == 1 else "torn"
+
+
+def live_calls(generic):
+    live = {name for name, _, is_bare in generic[0] if not is_bare}
+    return [call for call in samples.all_shapes_of(generic) if set(call) <= live]
+
+
+def asking_pairs(generic, place):
+    """All pairs of calls that are unlike at this place alone, and of which unlike things are told; ascending."""
+    told = {call: chosen(generic, call) for call in samples.all_shapes_of(generic)}
+    return [
+        (one, other)
+        for one, other in itertools.combinations(told, 2)
+        if [at for at in range(generic[1]) if one[at] != other[at]] == [place] and told[one] != told[other]
+    ]
+
+
+def hidden(generic):
+    told = {chosen(generic, call) for call in live_calls(generic)}
+    return [label for label, _ in generic[2] if label not in told]
+
+
+def hiding_sets(generic, label):
+    """All sets of other labels that hide a method, the smaller ones ahead, ascending among those of one size."""
+    kinds, _, methods = generic
+    own = dict(methods)[label]
+    calls = [call for call in live_calls(generic) if is_shape_below(kinds, call, own)]
+    hides = {
+        other: {call for call in calls if is_shape_below(kinds, call, shape)}
+        for other, shape in methods
+        if other != label and (is_shape_below(kinds, shape, own) or not is_shape_below(kinds, own, shape))
+    }
+    return [tuple(row) for row in subsets(sorted(hides)) if set(calls) <= set().union(*[hides[name] for name in row])]
+
+
+# [11] and [12]
+
+NAME = "[a-z]{1,8}"
+LABEL = f"(?!(?:none|torn)(?: |$)){NAME}"
+
+
+def bad_line(lines):
+    """The number of the first line of a GENERIC that is not so written or cannot stand there; None if there is none."""
+    for number, line in enumerate(lines):
+        if not _can_stand(lines[:number], line):
+            return number
+    if not any(_words_of(line, "kind") for line in lines):
+        return len(lines)
+    return None
+
+
+def _words_of(line, word):
+    """The words behind this one, in a line that begins with it, or with bare and it."""
+    words = line.removeprefix("bare ").split(" ")
+    return words[1:] if words[0] == word else []
+
+
+def _can_stand(ahead, line):
+    """Whether a line can stand behind those ahead, all of which are well written."""
+    kinds = [_words_of(row, "kind")[0] for row in ahead if _words_of(row, "kind")]
+    methods = [_words_of(row, "method") for row in ahead if _words_of(row, "method")]
+    if re.fullmatch("generic [1-9][0-9]{0,3}", line):
+        return not ahead
+    if re.fullmatch(f"(bare )?kind {NAME}( {NAME})*", line):
+        name, *supers = _words_of(line, "kind")
+        known = set(supers) <= set(kinds) and name not in kinds
+        return bool(ahead) and not methods and known and supers == sorted(set(supers))
+    if re.fullmatch(f"method {LABEL}( {NAME})+", line):
+        label, *shape = _words_of(line, "method")
+        fits = bool(ahead) and len(shape) == int(ahead[0].split(" ")[1]) and set(shape) <= set(kinds)
+        return fits and all(row[0] < label and row[1:] != shape for row in methods)
+    return False
+
+
+def bad_desk_line(text):
+    """The number that BadLine has for the text of a desk, or None."""
+    lines = text.split("\n")
+    end = lines.index("") if "" in lines else len(lines)
+    bad = bad_line(lines[:end])
+    if bad is not None:
+        return bad
+    if end == len(lines):
+        return end
+    places = int(lines[0].split(" ")[1])
+    kinds = [_words_of(row, "kind")[0] for row in lines[:end] if _words_of(row, "kind")]
+    shape = f"(?: (?:{'|'.join(kinds)})){{{places}}}"
+    plain = "torn|mend|lost|unsafe|partings|order|ring|hidden"
+    request = f"{plain}|(?:choose|chain){shape}|(?:wish|add) {LABEL}{shape}|drop {LABEL}"
+    for number in range(end + 1, len(lines)):
+        if not re.fullmatch(request, lines[number]):
+            return number
+    return None

@@ -4,12 +4,13 @@ import copy
 import inspect
 import unittest
 
-from tests.samples import BOTH, CUBE, KINDS, NAMED, SIDE, SWAPPED, THREE, WIDE, as_lists
-from whichmethod import choose, data, later, mend, orders
-from whichmethod.errors import NoMethod, NotFitting, NotNeeded
+from tests.samples import BOTH, CUBE, KINDS, NAMED, SIDE, SWAPPED, THINGS, THREE, WIDE, as_lists
+from whichmethod import change, choose, data, desk, later, mend, orders, texts
+from whichmethod.errors import BadLine, Doubled, NoMethod, NotAsked, NotFitting, NotNeeded
 
 ORDER = ("e", "c", "d", "a", "b")
 WISHES = [(("c",), "q"), (("d",), "p")]
+TEXT = "generic 1\nkind a\nkind b\nbare kind c a b\nkind d a b\nkind e c d\nmethod p a\nmethod q b\nmethod r c"
 LATER = ((("f", ("a", "b"), False), ("g", ("x", "y"), True)), ("f", "g"))
 
 # Each function with its parameters and arguments.
@@ -57,6 +58,16 @@ CALLS = [
     (orders.settled, {"generic": SIDE}),
     (orders.choices, {"generic": BOTH}),
     (orders.unlike, {"generic": BOTH, "order": ORDER, "other": ("e", "d", "c", "b", "a")}),
+    (change.with_method, {"generic": SIDE, "label": "a", "shape": ("t", "t")}),
+    (change.without, {"generic": THREE, "label": "p"}),
+    (change.elsewhere, {"generic": BOTH, "other": THREE}),
+    (change.asked, {"generic": SIDE}),
+    (change.shows_asked, {"generic": SIDE, "place": 1}),
+    (change.hidden, {"generic": THINGS}),
+    (change.hiding, {"generic": THINGS, "label": "p"}),
+    (texts.generic_text, {"generic": SWAPPED}),
+    (texts.generic_in, {"text": TEXT}),
+    (desk.answers, {"text": TEXT + "\n\nmend\nwish p d\norder\nadd s d\nchain e\npartings\ndrop x"}),
 ]
 
 # Calls that raise an error that the document names.
@@ -73,6 +84,13 @@ WRONG = [
     (orders.ring, NotFitting, [BOTH, WISHES + [(("a",), "q")]]),
     (orders.shows_ring, NotFitting, [BOTH, WISHES + [(("a",), "q")], ("a", "b")]),
     (orders.cannot, NotFitting, [BOTH, WISHES + [(("a",), "q")]]),
+    (change.with_method, Doubled, [BOTH, "p", ("c",)]),
+    (change.with_method, Doubled, [BOTH, "r", ("a",)]),
+    (change.without, NoMethod, [BOTH, "r"]),
+    (change.shows_asked, NotAsked, [(KINDS, 2, ()), 1]),
+    (change.hiding, NoMethod, [THINGS, "x"]),
+    (texts.generic_in, BadLine, ["generic 1\nkind a\n"]),
+    (desk.answers, BadLine, ["generic 1\nkind a\n\ntorn\nx"]),
 ]
 
 # What the interface lists, file by file.
@@ -85,6 +103,9 @@ LISTED = {
         "is_order", "won_by", "forced", "order_for", "ring", "shows_ring", "cannot",
         "winners", "settled", "choices", "unlike",
     ],
+    change: ["with_method", "without", "elsewhere", "asked", "shows_asked", "hidden", "hiding"],
+    texts: ["generic_text", "generic_in"],
+    desk: ["answers"],
 }
 
 

@@ -17,12 +17,7 @@ def nearest(generic, call):
 
 def chosen(generic, call):
     """The label of the call's winner, or "none" if no method fits, or "torn"."""
-    labels = nearest(generic, call)
-    if not labels:
-        return "none"
-    if len(labels) > 1:
-        return "torn"
-    return labels[0]
+    return Table(generic).chosen(call)
 
 
 def torn(generic):

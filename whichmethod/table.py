@@ -33,3 +33,12 @@ class Table:
         """The ascending list of the labels of the methods that are nearest to a call."""
         fits = self.fitting(call)
         return [label for label in fits if not any([lower in fits for lower in self.nearer[label]])]
+
+    def chosen(self, call):
+        """The label of the call's winner, or "none" if no method fits, or "torn"."""
+        labels = self.nearest(call)
+        if not labels:
+            return "none"
+        if len(labels) > 1:
+            return "torn"
+        return labels[0]
